@@ -1,0 +1,1 @@
+"""A cave with rooms, beasts and things, played by keys."""
